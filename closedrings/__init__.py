@@ -1,0 +1,1 @@
+"""Closedrings: rings through all places, where ties are many."""
