@@ -8,3 +8,8 @@ def is_int(thing):
 
 def is_list_or_tuple(thing):
     return isinstance(thing, (list, tuple))
+
+
+def is_rising(row):
+    """Whether each of a row's values, which can be compared, is below the next."""
+    return all([one < other for one, other in zip(row, row[1:])])

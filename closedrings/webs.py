@@ -23,6 +23,14 @@ def lesser_first(a, b):
     return (min(a, b), max(a, b))
 
 
+def is_pair(many, thing):
+    """Whether a thing is a tuple of two places, the lesser one first."""
+    if not isinstance(thing, tuple) or len(thing) != 2:
+        return False
+    a, b = thing
+    return are_two_places(many, a, b) and a < b
+
+
 def pair_of(many, thing):
     """The pair that a list or tuple of two unlike places stands for; NoWeb for anything else."""
     if not is_list_or_tuple(thing) or len(thing) != 2:
@@ -68,6 +76,12 @@ def beside(web, place):
 def all_tied(many):
     """The web of so many places with every tie."""
     return (many, tuple([(a, b) for a in range(many) for b in range(a + 1, many)]))
+
+
+def untied(web):
+    """The pairs of places without a tie, rising."""
+    many, ties = web
+    return sorted(set(all_tied(many)[1]) - set(ties))
 
 
 def tie_of(many, a, b):

@@ -1,6 +1,8 @@
 """Things to hand in where the document says "anything", and webs of all sizes to hand in with them."""
 
 import copy
+import itertools
+import random
 
 from closedrings.webs import all_tied, made_web
 
@@ -26,6 +28,16 @@ NO_INTS = [
     True, False, None, "", "0", "1", "3", "20", "a text", "line\nend\n", [], [0], [3], [0, 1], [[0, 1]],
     (), (0,), (3,), (0, 1), ((0, 1),), {}, {0: 1}, {"a": [1]}, nested(30), nested(30, tuple), nested_dict(30),
     [0] * 99_999, (None,) * 99_999, "~ " * 50_000,
+]
+
+# Things of many kinds, none of which is a tuple of places or of pairs of places of a web; the empty tuple is left out.
+STRANGE = [thing for thing in NO_INTS if thing not in ((), (0,), (3,), (0, 1), ((0, 1),))] + [
+    0, 1, 3, GREAT, -GREAT, (None,), (True,), (False,), ("0",), ((),), ([],), ({},), (GREAT,), (-GREAT,), (-1,),
+    (0, None), (None, 0), (0, (1,)), ((0,), 1), ((0, 1), None), ((0, 1), 2), ((0,),), ((0, 1, 2),), ([0, 1],),
+    (("0", "1"),), ((0, None),), ((None, 1),), ((0, GREAT),), ((-1, 0),), ((1, 0),), ((0, 0),), (((0, 1),),),
+    {0: (0, 1)}, [(0, 1)], [(0, 1), (1, 2)], [0, 1, 2], [0, 1, 2, 3], "012", ("012",), (0,) * 99_999,
+    ((0, 1),) * 33_333, tuple([(0, 1), (1, 2), None] * 10_000), tuple(range(99_999)), (nested(29),),
+    (nested(29, tuple),), (0, 1, nested(29, tuple)), ((0, nested(28, tuple)),),
 ]
 
 GREAT_INTS = [GREAT, -GREAT, 10 ** 20, -1, -2, 21, 22, 100, 2 ** 31, 2 ** 63, 2 ** 64]
@@ -56,6 +68,61 @@ def webs_of_all_sizes():
         yield all_tied(many)
 
 
+def mixed_webs(many, amount, seed=1):
+    """Webs of so many places whose ties are drawn, from few to nearly all; the same ones each time."""
+    draw = random.Random(f"{many} {amount} {seed}")
+    pairs = every_pair(many)
+    for at in range(amount):
+        size = round(len(pairs) * (at + 1) / (amount + 1))
+        yield many, tuple(sorted(draw.sample(pairs, size)))
+
+
+def every_ring(places):
+    """Each ring through just these places once, of a web that has every tie."""
+    first, *others = sorted(places)
+    for order in itertools.permutations(others):
+        if order[0] < order[-1]:
+            yield (first, *order)
+
+
+def turns_of(ring):
+    """The ring begun at each of its places, both ways round."""
+    for row in (ring, ring[::-1]):
+        for at in range(len(row)):
+            yield row[at:] + row[:at]
+
+
+def sides(ring):
+    """The ties of a ring as a set of pairs, found without the package."""
+    return {tuple(sorted((ring[at - 1], ring[at]))) for at in range(len(ring))}
+
+
+def whole_rings(web, held=()):
+    """All whole rings of a web of few places that hold the held ties, each once."""
+    many, ties = web
+    return [ring for ring in every_ring(range(many)) if set(held) <= sides(ring) <= set(ties)]
+
+
+def has_loop(ties):
+    """Whether ties have a ring among them: take away loose ends till there is none."""
+    left = set(ties)
+    while True:
+        ends = [place for tie in left for place in tie]
+        loose = {tie for tie in left if min(map(ends.count, tie)) == 1}
+        if not loose:
+            return bool(left)
+        left -= loose
+
+
+def every_held(web):
+    """All held ties of a web, found by a look at all choices of at most four of its ties."""
+    for size in range(5):
+        for ties in itertools.combinations(web[1], size):
+            ends = [place for tie in ties for place in tie]
+            if all(ends.count(place) <= 2 for place in ends) and not has_loop(ties):
+                yield ties
+
+
 def outcome(call):
     """What a call tells, or the kind of error that it raises."""
     try:
@@ -80,6 +147,13 @@ def check_call(test, function, **named):
 def check_refused(test, error, function, **named):
     """The call is refused with just this error, and leaves its arguments as they were."""
     test.assertEqual(check_call(test, function, **named), ("refused", error), short(named))
+
+
+def check_told(test, value, function, **named):
+    """The call tells just this value, of the very kind, and leaves its arguments as they were."""
+    told = check_call(test, function, **named)
+    test.assertEqual(told, ("told", value), short(named))
+    test.assertIs(told[1].__class__, value.__class__)
 
 
 def short(named):
