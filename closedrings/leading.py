@@ -24,14 +24,18 @@ def can_turn(web, held, row, i):
             and lesser_first(one, other) not in held)
 
 
+def turned(web, held, row):
+    """The row with all behind its first i places turned about, with the least i that makes it a ring."""
+    least = min([i for i in range(2, len(row) - 1) if can_turn(web, held, row, i)])
+    return row[:least] + row[least:][::-1]
+
+
 def led_over(web, held, put, ring):
     """The ring that led_one tells, of arguments that are right."""
     if put not in ring_ties(ring):
         return told_ring(ring)
-    row = begun_with(ring, put)
     # The counts of a put's places are so large that there is one such i more than there are held ties.
-    least = min([i for i in range(2, len(row) - 1) if can_turn(web, held, row, i)])
-    return told_ring(row[:least] + row[least:][::-1])
+    return told_ring(turned(web, held, begun_with(ring, put)))
 
 
 def led_one(web, held, put, ring):

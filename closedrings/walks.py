@@ -5,7 +5,8 @@ from closedrings.webs import is_pair, is_place, lesser_first
 
 SHORTEST_RING = 3
 MOST_HELD = 4
-MOST_AT_A_PLACE = 2
+# A ring has just so many ties at each of its places.
+TIES_AT_A_PLACE = 2
 
 
 def are_unlike_places(many, thing):
@@ -66,7 +67,7 @@ def is_tie(web, thing):
 def has_crowded_place(ties):
     """Whether more ties than a ring can take are at one place."""
     ends = [place for tie in ties for place in tie]
-    return any([ends.count(place) > MOST_AT_A_PLACE for place in ends])
+    return any([ends.count(place) > TIES_AT_A_PLACE for place in ends])
 
 
 def has_ring(many, ties):

@@ -7,11 +7,11 @@ import unittest
 from closedrings.closing import are_puts, closed, put_ahead, web_with
 from closedrings.errors import NoHeld, NoPut, NoRing
 from closedrings.leading import led_back, led_one
-from closedrings.walks import is_held, is_whole_ring
+from closedrings.walks import is_whole_ring
 from closedrings.webs import all_tied
 
-from tests.things import (GREAT, STRANGE, check_call, check_ints, check_refused, check_told, every_held, every_pair,
-                          every_web, mixed_webs, sides, turns_of, whole_rings)
+from tests.things import (GREAT, STRANGE, check_call, check_ints, check_refused, check_told, drawn_held, every_held,
+                          every_pair, every_web, mixed_webs, sides, turns_of, whole_rings)
 
 
 def least_turn(ring):
@@ -65,15 +65,6 @@ def drawn_ring(draw, many, held):
         left = [row for row in left if not set(row) & set(tie)] + [one + other]
     draw.shuffle(left)
     return tuple(place for row in left for place in (row if draw.random() < 0.5 else row[::-1]))
-
-
-def drawn_held(draw, web, size):
-    """So many drawn held ties of a web, or None if they did not come in a few draws."""
-    for attempt in range(50):
-        ties = tuple(sorted(draw.sample(web[1], size)))
-        if is_held(web, ties):
-            return ties
-    return None
 
 
 def drawn_cases():

@@ -4,6 +4,7 @@ import copy
 import itertools
 import random
 
+from closedrings.papers import lets_by
 from closedrings.webs import all_tied, made_web
 
 
@@ -38,6 +39,12 @@ STRANGE = [thing for thing in NO_INTS if thing not in ((), (0,), (3,), (0, 1), (
     {0: (0, 1)}, [(0, 1)], [(0, 1), (1, 2)], [0, 1, 2], [0, 1, 2, 3], "012", ("012",), (0,) * 99_999,
     ((0, 1),) * 33_333, tuple([(0, 1), (1, 2), None] * 10_000), tuple(range(99_999)), (nested(29),),
     (nested(29, tuple),), (0, 1, nested(29, tuple)), ((0, nested(28, tuple)),),
+]
+
+# None of these is held ties of any web.
+NEVER_HELD = STRANGE + [
+    ((1, 0),), ((1, 2), (0, 1)), ((0, 1), (0, 1)), ((0, 1), (0, 2), (0, 3)), ((0, 1), (0, 2), (1, 2)),
+    ((0, 1), (1, 2), (2, 3), (3, 4), (4, 5)), ((0, True),), ((False, 1),), ((0, 1), [2, 3]), (0, 1), "held", -1,
 ]
 
 GREAT_INTS = [GREAT, -GREAT, 10 ** 20, -1, -2, 21, 22, 100, 2 ** 31, 2 ** 63, 2 ** 64]
@@ -75,6 +82,13 @@ def mixed_webs(many, amount, seed=1):
     for at in range(amount):
         size = round(len(pairs) * (at + 1) / (amount + 1))
         yield many, tuple(sorted(draw.sample(pairs, size)))
+
+
+def renumbered(draw, web):
+    """The same web with its places in a drawn order."""
+    names = list(range(web[0]))
+    draw.shuffle(names)
+    return web[0], tuple(sorted(tuple(sorted((names[a], names[b]))) for a, b in web[1]))
 
 
 def every_ring(places):
@@ -118,17 +132,65 @@ def every_held(web):
     """All held ties of a web, found by a look at all choices of at most four of its ties."""
     for size in range(5):
         for ties in itertools.combinations(web[1], size):
-            ends = [place for tie in ties for place in tie]
-            if all(ends.count(place) <= 2 for place in ends) and not has_loop(ties):
+            if are_held(ties):
                 yield ties
 
 
+def are_held(ties):
+    """Whether ties, rising, four at most, can be held: no three at one place and no ring among them."""
+    ends = [place for tie in ties for place in tie]
+    return all(ends.count(place) <= 2 for place in ends) and not has_loop(ties)
+
+
+def drawn_held(draw, web, size):
+    """So many drawn held ties of a web, or None if they did not come in a few draws."""
+    if size > len(web[1]):
+        return None
+    for attempt in range(50):
+        ties = tuple(sorted(draw.sample(web[1], size)))
+        if are_held(ties):
+            return ties
+    return None
+
+
+def right_paper(web, held, paper):
+    """[19] by the letter, of a tuple in one of the five forms: whether what it says is so."""
+
+    def read(thing, taken, dropped):
+        word, *parts = thing
+        left = set(ties) - dropped
+        if word == "few":
+            return sum(parts[0] in tie for tie in left) < 2
+        if word == "three":
+            return sum(parts[0] in tie for tie in taken) >= 3
+        if word == "short":
+            return 3 <= len(parts[0]) == len(set(parts[0])) < many and sides(parts[0]) <= taken
+        if word == "lot":
+            return leaves_more(many, left, set(parts[0]))
+        tie, one, other = parts
+        is_open = tie in left - taken
+        return is_open and read(one, taken | {tie}, dropped) and read(other, taken, dropped | {tie})
+
+    many, ties = web
+    return read(paper, set(held), set())
+
+
+def leaves_more(many, ties, lot):
+    """Whether more pieces are left without the places of a lot than it has places."""
+    group = {place: place for place in range(many) if place not in lot}
+    for a, b in ties:
+        if a in group and b in group:
+            gone = group[b]
+            group = {place: group[a] if told == gone else told for place, told in group.items()}
+    return len(set(group.values())) > len(lot)
+
+
 def outcome(call):
-    """What a call tells, or the kind of error that it raises."""
+    """What a call tells, or the kind of error that it raises, with its fields."""
     try:
         return "told", call()
     except ValueError as error:
-        return "refused", error.__class__
+        return ("refused", error.__class__, *vars(error).items())
 
 
 def check_call(test, function, **named):
@@ -144,9 +206,9 @@ def check_call(test, function, **named):
     return first
 
 
-def check_refused(test, error, function, **named):
-    """The call is refused with just this error, and leaves its arguments as they were."""
-    test.assertEqual(check_call(test, function, **named), ("refused", error), short(named))
+def check_refused(test, error, function, fields=(), **named):
+    """The call is refused with just this error and its fields, and leaves its arguments as they were."""
+    test.assertEqual(check_call(test, function, **named), ("refused", error, *fields), short(named))
 
 
 def check_told(test, value, function, **named):
@@ -179,3 +241,17 @@ def check_ints(test, row):
     test.assertIs(row.__class__, tuple)
     for number in row:
         test.assertIs(number.__class__, int)
+
+
+def check_answer(test, web, held, told):
+    """A pair that tells a whole ring with the held ties on it, or a right paper that there is none."""
+    test.assertIs(told.__class__, tuple)
+    word, answer = told
+    test.assertIn(word, ("ring", "none"))
+    if word == "ring":
+        check_ints(test, answer)
+        test.assertEqual(sorted(answer), list(range(web[0])))
+        test.assertTrue(set(held) <= sides(answer) <= set(web[1]), (web, held, answer))
+    else:
+        test.assertTrue(right_paper(web, held, answer), (web, held, answer))
+        test.assertIs(lets_by(web, held, answer), True)
