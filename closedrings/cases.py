@@ -11,10 +11,10 @@ RING = "ring"
 NONE = "none"
 
 
-def ring_through(taken, piece):
-    """The ring along the taken ties of a piece whose places have two of them each."""
-    row = [piece[0]]
-    while len(row) < len(piece):
+def row_through(taken, first, size):
+    """The row of so many places from the first one on along taken ties, of which no three are at one place."""
+    row = [first]
+    while len(row) < size:
         row.append([place for place in beside(taken, row[-1]) if place not in row][0])
     return tuple(row)
 
@@ -24,7 +24,7 @@ def ring_among(taken):
     counts = counts_of(taken)
     for piece in pieces(taken, ()):
         if all([counts[place] == TIES_AT_A_PLACE for place in piece]):
-            return ring_through(taken, piece)
+            return row_through(taken, piece[0], len(piece))
     return None
 
 

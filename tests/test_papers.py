@@ -151,7 +151,8 @@ class Plain(unittest.TestCase):
         check_told(self, True, lets_by, web=STAR, held=((0, 1), (0, 2)), thing=paper)
         check_told(self, False, lets_by, web=STAR, held=((0, 1),), thing=paper)
         check_told(self, False, lets_by, web=all_tied(4), held=((0, 1), (0, 2)), thing=paper)
-        check_told(self, False, lets_by, web=STAR, held=((0, 1), (0, 2)), thing=("tie", (0, 3), ("three", 3), ("few", 3)))
+        other = ("tie", (0, 3), ("three", 3), ("few", 3))
+        check_told(self, False, lets_by, web=STAR, held=((0, 1), (0, 2)), thing=other)
 
     def test_short(self):
         # Places 0, 1 and 2 have two ties each, and so has 3, 4 and 5: two rings, joined by nothing.
@@ -305,7 +306,8 @@ class Bent(unittest.TestCase):
                            else list(right))
 
     def test_anything(self):
-        for web, held in ((STAR, ()), (STAR, ((0, 1),)), ((3, ()), ()), (all_tied(20), ((0, 1), (1, 2))), ((20, ()), ())):
+        full = all_tied(20)
+        for web, held in ((STAR, ()), (STAR, ((0, 1),)), ((3, ()), ()), (full, ((0, 1), (1, 2))), ((20, ()), ())):
             for thing in STRANGE + [(), (0,), (0, 1), ((0, 1),)]:
                 check_told(self, False, lets_by, web=web, held=held, thing=thing)
                 check_told(self, False, lets_by, web=web, held=held, thing=("short", thing))
